@@ -1,0 +1,1 @@
+"""Tiltheap: marbles on a tray that is tilted."""

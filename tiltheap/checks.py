@@ -1,0 +1,16 @@
+"""Checks of arguments that several modules need."""
+
+
+def is_number(value, limit):
+    """Tell whether a value is an integer from 0 to a limit."""
+    # Python counts True and False among the integers.
+    if isinstance(value, bool) or not isinstance(value, int):
+        return False
+    return 0 <= value <= limit
+
+
+def is_place(value, height, width):
+    """Tell whether a value is a place on a tray with so many rows and columns."""
+    if not isinstance(value, tuple) or len(value) != 2:
+        return False
+    return is_number(value[0], height - 1) and is_number(value[1], width - 1)
