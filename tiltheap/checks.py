@@ -1,5 +1,7 @@
 """Checks of arguments that several modules need."""
 
+from tiltheap.errors import InvalidNumber, UnknownMarble
+
 
 def is_number(value, limit):
     """Tell whether a value is an integer from 0 to a limit."""
@@ -14,3 +16,15 @@ def is_place(value, height, width):
     if not isinstance(value, tuple) or len(value) != 2:
         return False
     return is_number(value[0], height - 1) and is_number(value[1], width - 1)
+
+
+def check_number(value, limit):
+    """Raise InvalidNumber unless a value is an integer from 0 to a limit."""
+    if not is_number(value, limit):
+        raise InvalidNumber(f"not a number from 0 to {limit}")
+
+
+def check_marble(tray, marble):
+    """Raise UnknownMarble unless a marble lies on a tray."""
+    if marble not in tray:
+        raise UnknownMarble(marble)
