@@ -45,6 +45,21 @@ def places(rows):
     }
 
 
+def rounds_until_repeated(rows, text):
+    """Return the list of the rows after 0, 1, .. rounds, until those after the first one come again."""
+    found = [rows, after(rows, text)]
+    while True:
+        following = after(found[-1], text)
+        if following == found[1]:
+            return found
+        found.append(following)
+
+
+def rows_after(rows, text, times):
+    found = rounds_until_repeated(rows, text)
+    return found[0] if times == 0 else found[1 + (times - 1) % (len(found) - 1)]
+
+
 def shortest_ways(rows):
     """Return a dict from all rows that can be reached to the first of the shortest strings of tilts."""
     ways = {rows: ""}

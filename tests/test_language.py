@@ -10,6 +10,14 @@ PACKAGE = Path(__file__).resolve().parent.parent / "tiltheap"
 FILES = sorted(path for path in PACKAGE.rglob("*.py"))
 LIBRARY = ("heapq", "math", "itertools", "collections")
 BARRED_WORDS = ("type", "typing", "enum", "dataclass", "overload", "contextmanager", "namedtuple")
+BUILTINS = (
+    "len range enumerate zip min max sum abs sorted reversed int str bool bytes list tuple dict set isinstance ord repr "
+    "any all divmod super property classmethod staticmethod ValueError TypeError KeyError NotImplemented"
+).split()
+METHODS = (
+    "append clear copy count endswith extend find get index insert items join keys ljust lower lstrip pop remove "
+    "replace reverse rjust setdefault split startswith strip update upper values zfill add discard __init__"
+).split()
 OTHER_NODES = (ast.Global, ast.AsyncFunctionDef, ast.AsyncFor, ast.AsyncWith, ast.Await, ast.Div)
 
 
@@ -85,6 +93,23 @@ class LanguageTest(unittest.TestCase):
                 words = [getattr(node, "id", ""), getattr(node, "attr", ""), getattr(node, "arg", "")]
                 self.assertFalse(set(words) & set(BARRED_WORDS), name)
                 self.assertFalse(isinstance(node, ast.Constant) and isinstance(node.value, float), name)
+
+    def test_rests_are_taken_of_plain_numbers(self):
+        for name, tree in trees():
+            for node in ast.walk(tree):
+                self.assertFalse(isinstance(node, ast.AugAssign) and isinstance(node.op, ast.Mod), name)
+                if isinstance(node, ast.BinOp) and isinstance(node.op, ast.Mod):
+                    self.assertIsInstance(node.left, ast.Call, name)
+                    self.assertIn(node.left.func.id, ("int", "len"), name)
+
+    def test_only_allowed_builtins_and_methods_are_used(self):
+        own = {function.name for _, tree in trees() for function in functions_of(tree)}
+        for name, tree in trees():
+            for node in ast.walk(tree):
+                if isinstance(node, ast.Name) and hasattr(builtins, node.id):
+                    self.assertIn(node.id, BUILTINS, name)
+                if isinstance(node, ast.Call) and isinstance(node.func, ast.Attribute):
+                    self.assertIn(node.func.attr, own | set(METHODS), name)
 
     def test_strings_have_no_percent_signs(self):
         for name, tree in trees():

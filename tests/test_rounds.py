@@ -23,21 +23,6 @@ def cases():
         yield rows, text, Tray(*rows), Word(text)
 
 
-def rounds_until_repeated(rows, text):
-    """Return the list of the rows after 0, 1, .. rounds, until those after the first one come again."""
-    found = [rows, oracle.after(rows, text)]
-    while True:
-        following = oracle.after(found[-1], text)
-        if following == found[1]:
-            return found
-        found.append(following)
-
-
-def rows_after(rows, text, times):
-    found = rounds_until_repeated(rows, text)
-    return found[0] if times == 0 else found[1 + (times - 1) % (len(found) - 1)]
-
-
 class InterfaceTest(unittest.TestCase):
     def test_example_of_lengths(self):
         tray = Tray("a.b", ".c.", "d..")
@@ -157,20 +142,20 @@ class AfterRoundsTest(unittest.TestCase):
     def test_many_rounds(self):
         for rows, text, tray, word in cases():
             for times in (1000, 123456789, 10 ** 12 + 7, MOST - 2, MOST - 1, MOST):
-                expected = rows_after(rows, text, times)
+                expected = oracle.rows_after(rows, text, times)
                 self.assertEqual(after_rounds(tray, word, times).rows, expected, (rows, text, times))
 
     def test_the_longest_repetition(self):
         tray, word = Tray(*LONGEST), Word("rdlu")
         for times in (0, 1, 231, 461, 462, 463, 10 ** 9, MOST):
-            expected = rows_after(LONGEST, "rdlu", times)
+            expected = oracle.rows_after(LONGEST, "rdlu", times)
             self.assertEqual(after_rounds(tray, word, times).rows, expected)
             self.assertEqual(marble_after(tray, "q", word, times), oracle.places(expected)["q"])
 
     def test_the_longest_word(self):
         tray = Tray("ab.", "c..", "d..")
         self.assertEqual(after_rounds(tray, Word("rdlu" * 15), MOST), tray)
-        self.assertEqual(after_rounds(tray, Word("rdlu" * 14), MOST).rows, rows_after(tray.rows, "rdlu" * 14, MOST))
+        self.assertEqual(after_rounds(tray, Word("rdlu" * 14), MOST).rows, oracle.rows_after(tray.rows, "rdlu" * 14, MOST))
 
     def test_no_rounds(self):
         for rows, text, tray, word in cases():
@@ -291,13 +276,13 @@ class BackTest(unittest.TestCase):
         for rows, text, tray, word in cases():
             with self.subTest(rows=rows, text=text):
                 many = back_after(tray, word)
-                self.assertEqual(many, len(rounds_until_repeated(rows, text)) - 1)
+                self.assertEqual(many, len(oracle.rounds_until_repeated(rows, text)) - 1)
                 self.assertEqual(after_rounds(tray, word, many + 1), after_rounds(tray, word, 1))
 
     def test_is_back_against_the_definition(self):
         answers = set()
         for rows, text, tray, word in cases():
-            found = rounds_until_repeated(rows, text)
+            found = oracle.rounds_until_repeated(rows, text)
             self.assertIs(is_back(tray, word), rows in found[1:], (rows, text))
             answers.add(is_back(tray, word))
         self.assertEqual(answers, {True, False})
@@ -323,7 +308,7 @@ class UnlikeRoundTest(unittest.TestCase):
         answers = set()
         texts = list(oracle.texts(3)) + ["dlur", "udlur", "rdlu", "lurd", "rdlurdlu", "lurdlurd"]
         for rows in (("ab", "c."), ("a.b", ".c.", "d.."), ("abc", "de.")):
-            states = {text: [rows_after(rows, text, times) for times in range(40)] for text in texts}
+            states = {text: [oracle.rows_after(rows, text, times) for times in range(40)] for text in texts}
             for one, other in itertools.product(texts, texts):
                 unlike = [times for times in range(40) if states[one][times] != states[other][times]]
                 expected = unlike[0] if unlike else None

@@ -1,6 +1,6 @@
 """Checks of arguments that several modules need."""
 
-from tiltheap.errors import InvalidNumber, UnknownMarble
+from tiltheap.errors import InvalidNumber, InvalidPlace, UnknownMarble
 
 
 def is_number(value, limit):
@@ -28,3 +28,9 @@ def check_marble(tray, marble):
     """Raise UnknownMarble unless a marble lies on a tray."""
     if marble not in tray:
         raise UnknownMarble(marble)
+
+
+def check_place(tray, place):
+    """Raise InvalidPlace unless a place exists on a tray."""
+    if not is_place(place, tray.height, tray.width):
+        raise InvalidPlace("no such place on the tray")

@@ -1,7 +1,7 @@
 """The fewest tilts to a place, to a meeting or to a tray."""
 
-from tiltheap.checks import check_marble, check_number, is_place
-from tiltheap.errors import InvalidNumber, InvalidPlace, SameMarble
+from tiltheap.checks import check_marble, check_number, check_place
+from tiltheap.errors import InvalidNumber, SameMarble
 from tiltheap.words import ALONG_ROWS, OPPOSITES, Word, is_tilt
 
 MAX_COUNT = 1000
@@ -11,8 +11,7 @@ CLOCKWISE = {"u": "r", "r": "d", "d": "l", "l": "u"}
 def fewest_to_place(tray, marble, place):
     """Return the fewest tilts after which a marble lies at a place, or None."""
     check_marble(tray, marble)
-    if not is_place(place, tray.height, tray.width):
-        raise InvalidPlace("no such place on the tray")
+    check_place(tray, place)
     return _first_way(tray, lambda reached: reached(marble) == place)
 
 

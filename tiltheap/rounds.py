@@ -36,7 +36,8 @@ def after_rounds(tray, word, times):
     for marble in first.marbles:
         circle = _circle_from(first(marble), moves)
         # The first round leads to the circle's beginning; only the others go along it.
-        row, column = circle[(times - 1) % len(circle)]
+        # By `int` it is plain that the sign for the rest stands behind a number.
+        row, column = circle[int(times - 1) % len(circle)]
         cells[row][column] = marble
     rows = ["".join(line) for line in cells]
     return Tray(*rows)

@@ -1,7 +1,7 @@
 """Trays with marbles."""
 
-from tiltheap.checks import is_place
-from tiltheap.errors import InvalidPlace, InvalidTray, UnknownMarble
+from tiltheap.checks import check_place
+from tiltheap.errors import InvalidTray, UnknownMarble
 from tiltheap.words import ALONG_ROWS, Word
 
 EMPTY = "."
@@ -49,8 +49,7 @@ class Tray:
 
     def at(self, place):
         """Return the marble at a place, or None."""
-        if not is_place(place, self.height, self.width):
-            raise InvalidPlace("no such place on the tray")
+        check_place(self, place)
         row, column = place
         cell = self._rows[row][column]
         return None if cell == EMPTY else cell
