@@ -12,7 +12,7 @@ from tiltheap.trays import Tray
 LETTERS = "abcdefghijklmnopqrstuvwxyz"
 GREATEST = ("abcdefgh", "ijklmnop", "qrstuvwx", "yz......", "........", "........", "........", "........")
 TEXT = "+---+\n|a.b|\n|.c.|\n+---+"
-SIGNS = ".az+-| \n\tA0\u0430\u2502"
+SIGNS = "".join(map(chr, range(128))) + "\xe9\u0430\u2502\u2028\uff42"
 
 
 def drawn(rows):
